@@ -1,0 +1,1 @@
+"""How much each bit sways a yes or no."""
