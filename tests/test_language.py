@@ -139,6 +139,8 @@ class LanguageTest(unittest.TestCase):
         def check(path, tree):
             for node in ast.walk(tree):
                 self.assertNotIsInstance(node, NODES_OUT)
+                if isinstance(node, ast.Expr) and node not in tree.body[:1]:
+                    self.assertIsInstance(node.value, ast.Call)
                 if isinstance(node, ast.Assign):
                     self.assertEqual(len(node.targets), 1)
                 if isinstance(node, (ast.For, ast.While)):
