@@ -22,11 +22,21 @@ def turned(x, i):
     return x ^ (1 << i)
 
 
+def with_bit(x, i):
+    return x | (1 << i)
+
+
+def size_of(s):
+    size = 0
+    while s > 0:
+        size = size + (s & 1)
+        s = s >> 1
+    return size
+
+
 def meets_oddly(x, s):
-    both = x & s
-    odd = False
-    while both > 0:
-        if both & 1 == 1:
-            odd = not odd
-        both = both >> 1
-    return odd
+    return size_of(x & s) % 2 == 1
+
+
+def words_of_yes(says):
+    return [x for x in range(len(says)) if says[x] == 1]

@@ -1,21 +1,10 @@
-"""Promise 2: ask, mean and sway."""
+"""Promise 2: ask, mean, even; promise 1: state; and how a fraction is told."""
 
 import unittest
 from fractions import Fraction
 
 from bitsways.fraction import lowest_terms
-from tests.helper import LARGEST, last, replies
-
-
-def told_sway(bits, words, i):
-    """The sway of bit i as the document's words say it, by another way."""
-    yes = set(words)
-    swayed = {x ^ 2 ** i for x in yes} ^ yes
-    return Fraction(len(swayed), 2 ** bits)
-
-
-def numbers_of(fraction):
-    return [0, fraction.numerator, fraction.denominator]
+from tests.helper import LARGEST, last, many_answers, numbers_of, of, replies, yeses
 
 
 class AskTest(unittest.TestCase):
@@ -37,7 +26,7 @@ class MeanTest(unittest.TestCase):
                 part = Fraction(count, 2 ** bits)
                 self.assertEqual(
                     last(("begin", bits), ("told", list(range(count))), ("mean",)),
-                    numbers_of(part))
+                    [0] + numbers_of(part))
 
     def test_no_to_all(self):
         self.assertEqual(last(("begin", 5), ("mean",)), [0, 0, 1])
@@ -49,51 +38,58 @@ class MeanTest(unittest.TestCase):
         self.assertEqual(last(("begin", 3), ("told", [0, 1, 2, 3, 4, 5]), ("mean",)), [0, 3, 4])
 
 
-class SwayTest(unittest.TestCase):
-    def test_every_answer(self):
-        for bits in (1, 2, 3):
-            for told in range(2 ** 2 ** bits):
-                words = [x for x in range(2 ** bits) if told >> x & 1]
-                for i in range(bits):
-                    self.assertEqual(
-                        last(("begin", bits), ("told", words), ("sway", i)),
-                        numbers_of(told_sway(bits, words, i)))
+class EvenTest(unittest.TestCase):
+    def test_every_number_of_yeses(self):
+        for bits in (1, 2, 3, 4, 5):
+            for count in range(2 ** bits + 1):
+                part = Fraction(count, 2 ** bits)
+                self.assertEqual(
+                    of(bits, list(range(count)), ("even",)),
+                    [0] + numbers_of(4 * part * (1 - part)))
 
-    def test_the_most_of_three(self):
-        for i in range(3):
-            self.assertEqual(
-                last(("begin", 3), ("least", 2, [1, 1, 1]), ("sway", i)), [0, 1, 2])
+    def test_none_and_all_are_not_even_at_all(self):
+        for bits in (1, 5):
+            self.assertEqual(last(("begin", bits), ("even",)), [0, 0, 1])
+            self.assertEqual(last(("begin", bits), ("not_of",), ("even",)), [0, 0, 1])
 
-    def test_an_odd_number_of_bits_set(self):
-        for i in range(5):
-            self.assertEqual(last(("begin", 5), ("odd", 31), ("sway", i)), [0, 1, 1])
-
-    def test_a_bit_that_never_sways(self):
-        self.assertEqual(
-            replies(("begin", 2), ("bit", 1), ("sway", 0), ("sway", 1)),
-            [[0], [2], [0, 0, 1], [0, 1, 1]])
-
-    def test_no_to_all(self):
-        for i in range(5):
-            self.assertEqual(last(("begin", 5), ("sway", i)), [0, 0, 1])
-
-    def test_one_bit(self):
-        self.assertEqual(last(("begin", 1), ("bit", 0), ("sway", 0)), [0, 1, 1])
+    def test_half_is_as_even_as_can_be(self):
+        for bits in (1, 2, 3, 4, 5):
+            self.assertEqual(last(("begin", bits), ("bit", 0), ("even",)), [0, 1, 1])
+            self.assertEqual(last(("begin", bits), ("odd", 2 ** bits - 1), ("even",)), [0, 1, 1])
 
     def test_yes_to_one_word(self):
-        for i in range(5):
-            self.assertEqual(last(("begin", 5), ("told", [19]), ("sway", i)), [0, 1, 16])
+        self.assertEqual(of(2, [3], ("even",)), [0, 3, 4])
+        self.assertEqual(of(5, [19], ("even",)), [0, 31, 256])
 
-    def test_no_such_bit(self):
+
+class StateTest(unittest.TestCase):
+    def test_how_many_bits_then_the_words_rising(self):
+        for bits, words in many_answers():
+            self.assertEqual(of(bits, words, ("state",)), [bits] + words)
+
+    def test_it_agrees_with_ask(self):
+        for words in ([], [0], [31], [4, 9, 30], list(range(32))):
+            self.assertEqual(
+                of(5, words, ("turn", 2), ("state",)), [5] + yeses(5, ("told", words), ("turn", 2)))
+
+    def test_words_told_twice_and_falling(self):
+        self.assertEqual(of(3, [6, 1, 6, 5, 1], ("state",)), [3, 1, 5, 6])
+
+    def test_none(self):
         for bits in (1, 2, 3, 4, 5):
-            for i in (bits, 32, LARGEST):
-                self.assertEqual(last(("begin", bits), ("sway", i)), [-2])
+            self.assertEqual(last(("begin", bits), ("state",)), [bits])
 
-    def test_asking_changes_nothing(self):
+    def test_all(self):
+        for bits in (1, 2, 3, 4, 5):
+            self.assertEqual(
+                last(("begin", bits), ("not_of",), ("state",)), [bits] + list(range(2 ** bits)))
+
+    def test_behind_each_call_that_makes_another_answer(self):
         self.assertEqual(
-            replies(("begin", 2), ("told", [0, 3]), ("sway", 1), ("mean",), ("ask", 3), ("ask", 0),
-                    ("sway", 1), ("mean",)),
-            [[0], [2], [0, 1, 1], [0, 1, 2], [1], [1], [0, 1, 1], [0, 1, 2]])
+            replies(("begin", 2), ("bit", 1), ("state",), ("set", 0, 1), ("state",), ("turn", 0),
+                    ("state",), ("not_of",), ("state",), ("odd", 3), ("state",),
+                    ("least", 2, [1, 1]), ("state",), ("begin", 1), ("state",))[2::2],
+            [[2, 2, 3], [2, 0, 2, 3], [2, 1, 2, 3], [2, 0], [2, 1, 2], [2, 3], [1]])
 
 
 class FractionTest(unittest.TestCase):

@@ -130,6 +130,40 @@ class LanguageTest(unittest.TestCase):
             self.assertEqual(len(names), len(set(names)))
         self.on_each_file(check)
 
+    def test_values_at_the_top_of_a_file(self):
+        def check(path, tree):
+            functions = set()
+            for node in tree.body[1:]:
+                if isinstance(node, ast.FunctionDef):
+                    functions.add(node.name)
+                if isinstance(node, ast.Assign):
+                    self.assertIsInstance(
+                        node.value, (ast.Constant, ast.List, ast.Tuple, ast.Dict))
+                    for each in list(ast.walk(node.value))[1:]:
+                        self.assertIsInstance(
+                            each, (ast.Constant, ast.Tuple, ast.Name, ast.Load))
+                        if isinstance(each, ast.Name):
+                            self.assertIn(each.id, functions)
+        self.on_each_file(check)
+
+    def test_what_is_walked_is_not_kept(self):
+        walked = {"zip", "enumerate", "reversed", "range"}
+        takers = walked | {"list", "tuple", "dict", "sorted", "sum", "any", "all", "min", "max"}
+
+        def check(path, tree):
+            right = []
+            for node in ast.walk(tree):
+                if isinstance(node, (ast.For, ast.comprehension)):
+                    right.append(node.iter)
+                if isinstance(node, ast.Call) and isinstance(node.func, ast.Name):
+                    if node.func.id in takers:
+                        right.extend(node.args[:1])
+            for node in ast.walk(tree):
+                if isinstance(node, ast.Call) and isinstance(node.func, ast.Name):
+                    if node.func.id in walked:
+                        self.assertIn(node, right)
+        self.on_each_file(check)
+
     def test_the_interface_stands_in_its_own_file_alone(self):
         def check(path, tree):
             self.assertEqual("answers" in top_names(tree), path.name == "answer.py")
@@ -147,6 +181,7 @@ class LanguageTest(unittest.TestCase):
                     self.assertEqual(node.orelse, [])
                 if isinstance(node, ast.Constant):
                     self.assertIsInstance(node.value, (int, str, type(None)))
+                    self.assertNotIn("%", str(node.value))
                 if isinstance(node, ast.ListComp):
                     self.assertEqual(len(node.generators), 1)
                     self.assertLessEqual(len(node.generators[0].ifs), 1)

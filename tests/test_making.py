@@ -1,17 +1,8 @@
 """Promise 1: the calls that make another answer."""
 
-import itertools
 import unittest
 
-from tests.helper import LARGEST, last, replies, yeses
-
-
-def all_answers(bits):
-    """Each answer to the words of so many bits, as a list of its words."""
-    words = range(2 ** bits)
-    for count in range(len(words) + 1):
-        for chosen in itertools.combinations(words, count):
-            yield list(chosen)
+from tests.helper import LARGEST, all_answers, last, replies, yeses
 
 
 class BeginTest(unittest.TestCase):
