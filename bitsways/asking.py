@@ -32,9 +32,9 @@ def all_sways(says, given):
 
 
 def even(says, given):
-    words = len(says)
+    word_count = len(says)
     yeses = sum(says)
-    return [0] + lowest_terms(4 * yeses * (words - yeses), words * words)
+    return [0] + lowest_terms(4 * yeses * (word_count - yeses), word_count * word_count)
 
 
 def part(says, given):
@@ -54,11 +54,11 @@ def parts(says, given):
 
 
 def levels(says, given):
-    words = len(says)
+    word_count = len(says)
     sums = level_sums(says)
     numbers = [len(sums)]
     for total in sums:
-        numbers.extend(lowest_terms(total, words * words))
+        numbers.extend(lowest_terms(total, word_count * word_count))
     return numbers
 
 
